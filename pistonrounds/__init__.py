@@ -1,0 +1,1 @@
+"""Pistonrounds: pistons that push one another, and papers that they go their round."""

@@ -1,0 +1,32 @@
+"""The names of the interface that have landed, with their arguments in their places."""
+
+import importlib
+import inspect
+import unittest
+
+INTERFACE = {
+    "lines": {"is_line": "sections marks keys thing", "depth_of": "line"},
+    "circuits": {"is_sections": "thing", "made_circuit": "thing", "counted": "circuit"},
+}
+
+
+class InterfaceTest(unittest.TestCase):
+    def test_each_name_has_its_arguments(self):
+        for module, functions in INTERFACE.items():
+            found = importlib.import_module("pistonrounds." + module)
+            for name, arguments in functions.items():
+                told = list(inspect.signature(getattr(found, name)).parameters)
+                self.assertEqual(told, arguments.split(), (module, name))
+
+    def test_each_name_is_defined_where_it_is_listed(self):
+        for module, functions in INTERFACE.items():
+            found = importlib.import_module("pistonrounds." + module)
+            for name in functions:
+                self.assertEqual(getattr(found, name).__module__, "pistonrounds." + module)
+
+    def test_what_an_int_is_stands_in_ints(self):
+        importlib.import_module("pistonrounds.ints")
+
+
+if __name__ == "__main__":
+    unittest.main()
