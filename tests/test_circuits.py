@@ -2,17 +2,11 @@
 
 import unittest
 
-from pistonrounds import errors
 from pistonrounds.circuits import counted, is_sections, made_circuit
-from pistonrounds.errors import NoCircuit, PistonError
+from pistonrounds.errors import NoCircuit
 from tests.things import (
-    OFF, ON, SMALL, Unchanged, anything, circuit_of_size, nested, not_deep, nots, nowhere, paths, plain,
+    OFF, ON, SMALL, Refusals, Unchanged, anything, circuit_of_size, nested, not_deep, nots, nowhere, paths, plain,
     put, within,
-)
-
-ALL_CLASSES = (
-    errors.NoStand, errors.NoEvent, errors.Restless, errors.NoRound, errors.NoCut, errors.NoFault, errors.TooGreat,
-    errors.NoText, errors.NoAsk, errors.NoWork,
 )
 
 
@@ -47,13 +41,10 @@ class SectionsTest(unittest.TestCase):
             self.assertIs(is_sections(thing), False, thing)
 
 
-class MadeCircuitTest(unittest.TestCase):
+class MadeCircuitTest(Refusals, unittest.TestCase):
     def refused(self, thing, told=None):
-        with self.assertRaises(NoCircuit, msg=told) as caught:
-            made_circuit(thing)
-        self.assertIsInstance(caught.exception, PistonError)
-        self.assertIsInstance(caught.exception, ValueError)
-        self.assertNotIsInstance(caught.exception, ALL_CLASSES)
+        with self.subTest(told=told):
+            self.assert_only(NoCircuit, made_circuit, thing)
 
     def test_what_is_handed_in_is_handed_back(self):
         for circuit in (SMALL, plain(), plain(6, 12, 3, 4), circuit_of_size(2000)):

@@ -7,6 +7,17 @@ import unittest
 INTERFACE = {
     "lines": {"is_line": "sections marks keys thing", "depth_of": "line"},
     "circuits": {"is_sections": "thing", "made_circuit": "thing", "counted": "circuit"},
+    "stands": {"made_stand": "circuit thing", "is_on": "circuit stand line"},
+    "answering": {
+        "answer": "circuit stand", "is_settled": "circuit stand", "answers": "circuit stand",
+        "settled": "circuit stand",
+    },
+    "events": {"can_go": "circuit stand", "events_of": "circuit stand", "after": "circuit stand event"},
+    "runs": {"run": "circuit stand events"},
+    "rounds": {
+        "made_round": "sections thing", "between": "sections steps i", "call_of": "sections steps i",
+        "due_end": "sections steps i p",
+    },
 }
 
 

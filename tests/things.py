@@ -1,6 +1,9 @@
 """Things that several tests use: anything, lines of a told depth or length, and small circuits."""
 
 import copy
+import reprlib
+
+from pistonrounds import errors
 
 ON = ("and", ())
 OFF = ("or", ())
@@ -114,6 +117,33 @@ SMALL = (
 )
 
 
+SMALL_STAND = ((1, 4), (0, 1), (1, 0), (0, 1))
+
+
+def follow(line):
+    """The pair of lines of a memory that takes over whether the line is on."""
+    return (line, ("not", line))
+
+
+def blinker(while_on):
+    """The pair of lines of memory 0 that turns for ever while the line is on."""
+    return (("and", (while_on, ("not", ("mark", 0)))), ("and", (while_on, ("mark", 0))))
+
+
+def counter(bits, going):
+    """Pairs of lines of memories 0 .. that count up by 1 with each answer while the line is on."""
+    pairs = []
+    for bit in range(bits):
+        low = (going,) + tuple(("mark", lower) for lower in range(bit))
+        pairs.append((("and", low + (("not", ("mark", bit)),)), ("and", low + (("mark", bit),))))
+    return tuple(pairs)
+
+
+def marks_of(number, bits):
+    """The marks of a counter that has counted up to the number."""
+    return tuple(number >> bit & 1 for bit in range(bits))
+
+
 class Unchanged:
     """Holds copies of mutable things, and tells whether these are still equal to them."""
 
@@ -123,3 +153,21 @@ class Unchanged:
 
     def holds(self):
         return self.things == self.copies
+
+
+class Refusals:
+    """Tests how calls are refused: mixed into test cases."""
+
+    def assert_only(self, kind, call, *arguments):
+        """Just this class is raised, none that stands beside it; the error is handed back."""
+        with self.assertRaises(errors.PistonError, msg=reprlib.repr(arguments)) as caught:
+            call(*arguments)
+        self.assertIs(type(caught.exception), kind, reprlib.repr(arguments))
+        self.assertIsInstance(caught.exception, ValueError)
+        return caught.exception
+
+    def assert_at(self, kind, at, call, *arguments):
+        """Just this class is raised, with this number as its at."""
+        error = self.assert_only(kind, call, *arguments)
+        self.assertEqual(error.at, at, reprlib.repr(arguments))
+        self.assertIs(type(error.at), int)
