@@ -14,3 +14,8 @@ def end_cam(sections, p, side):
 def end_place(sections, p, side):
     """The place of the end of a piston on this side."""
     return cam_place(end_cam(sections, p, side))
+
+
+def is_pressed(places, cam):
+    """Whether the cam of a line is pressed while the pistons are at these places."""
+    return places[cam[1]] == cam_place(cam[2])

@@ -2,6 +2,7 @@
 
 from pistonrounds.errors import NoRound
 from pistonrounds.ints import is_within
+from pistonrounds.order import is_rising
 from pistonrounds.pistons import end_cam, end_place
 
 LEAST_STEPS = 2
@@ -30,7 +31,7 @@ def is_step(sections, thing):
         return False
     if not all(is_move(sections, move) for move in thing):
         return False
-    return all([move[0] < other[0] for move, other in zip(thing, thing[1:])])
+    return is_rising(pistons_of(thing))
 
 
 def is_move(sections, thing):
@@ -38,6 +39,11 @@ def is_move(sections, thing):
     if not isinstance(thing, tuple) or len(thing) != 2:
         return False
     return is_within(thing[0], 0, len(sections) - 1) and is_within(thing[1], 0, 1)
+
+
+def pistons_of(step):
+    """The pistons that move in a step."""
+    return [p for p, side in step]
 
 
 def sides_of(steps, p):
@@ -71,3 +77,8 @@ def due_end(sections, steps, i, p):
     """The place at which a piston is due in step i."""
     sides = sides_of(steps[i:i + 1], p)
     return end_place(sections, p, sides[0]) if sides else place_ahead(sections, steps, i, p)
+
+
+def due_ends(sections, steps, i):
+    """The places at which all pistons are due in step i."""
+    return tuple([due_end(sections, steps, i, p) for p in range(len(sections))])

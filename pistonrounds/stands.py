@@ -2,7 +2,7 @@
 
 from pistonrounds.errors import NoStand
 from pistonrounds.ints import is_within
-from pistonrounds.pistons import cam_place, end_place
+from pistonrounds.pistons import end_place, is_pressed
 
 
 def made_stand(circuit, thing):
@@ -34,7 +34,7 @@ def is_on(circuit, stand, line):
     places, valves, marks, keys = stand
     word = line[0]
     if word == "cam":
-        return places[line[1]] == cam_place(line[2])
+        return is_pressed(places, line)
     if word == "mark":
         return marks[line[1]] == 1
     if word == "key":

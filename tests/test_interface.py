@@ -18,6 +18,12 @@ INTERFACE = {
         "made_round": "sections thing", "between": "sections steps i", "call_of": "sections steps i",
         "due_end": "sections steps i p",
     },
+    "plain": {"plain_circuit": "sections steps", "plain_rest": "sections steps"},
+    "clashes": {"is_clash": "sections steps thing", "clashes": "sections steps", "bars": "sections steps"},
+    "rows": {
+        "is_row": "circuit steps thing", "is_right": "circuit steps thing", "next_row": "circuit steps row event",
+    },
+    "goingpapers": {"goes_by": "circuit steps stand paper", "wrong_by": "circuit steps stand paper"},
 }
 
 

@@ -5,46 +5,8 @@ import unittest
 
 from pistonrounds.errors import NoRound
 from pistonrounds.rounds import between, call_of, due_end, made_round
+from tests.some_rounds import OUT_SECTIONS, OUT_STEPS, SECTIONS, STEPS, small_rounds, walked
 from tests.things import Refusals, Unchanged, anything, not_deep, nowhere, paths, put, within
-
-# a+ b+ a-c+ b-c-, and piston 3 without any move.
-SECTIONS = (1, 3, 2, 4)
-STEPS = (((0, 1),), ((1, 1),), ((0, 0), (2, 1)), ((1, 0), (2, 0)))
-# Each piston's first move is in: so ahead of step 0 all lies around.
-OUT_SECTIONS = (2, 1, 4)
-OUT_STEPS = (((0, 0),), ((1, 0), (2, 0)), ((0, 1),), ((0, 0),), ((2, 1),), ((0, 1), (1, 1)))
-
-
-def walked(sections, steps):
-    """The places ahead of each step and behind the last one, by walking twice around."""
-    places = [0] * len(sections)
-    rows = []
-    for step in steps + steps:
-        rows.append(tuple(places))
-        for p, side in step:
-            places[p] = 2 * sections[p] * side
-    rows.append(tuple(places))
-    return rows[len(steps):]
-
-
-def small_rounds():
-    """All rounds of two pistons and 2 to 4 steps, by trying all steps."""
-    moves = [(p, side) for p in (0, 1) for side in (0, 1)]
-    steps = [(move,) for move in moves] + [((0, first), (1, second)) for first in (0, 1) for second in (0, 1)]
-    found = []
-    for many in (2, 3, 4):
-        for thing in itertools.product(steps, repeat=many):
-            if is_small_round(thing):
-                found.append(thing)
-    return found
-
-
-def is_small_round(thing):
-    for p in (0, 1):
-        sides = "".join(str(side) for step in thing for mover, side in step if mover == p)
-        if "11" in sides * 2 or "00" in sides * 2:
-            return False
-    return True
 
 
 class MadeRoundTest(Refusals, unittest.TestCase):
