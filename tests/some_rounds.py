@@ -5,6 +5,7 @@ import itertools
 from pistonrounds.errors import Restless
 from pistonrounds.events import events_of
 from pistonrounds.rows import is_right, next_row
+from tests.things import blinker
 
 
 def steps_of(text):
@@ -21,6 +22,11 @@ STEPS = steps_of("a+ b+ a-c+ b-c-")
 # Each piston's first move is in: so ahead of step 0 all lies around.
 OUT_SECTIONS = (2, 1, 4)
 OUT_STEPS = steps_of("a- b-c- a+ a- c+ a+b+")
+# A piston that goes by itself; while it is between its ends and key 0 is 1, no stand is settled.
+ALONE = steps_of("a+ a-")
+BETWEEN = ("not", ("or", (("cam", 0, 0), ("cam", 0, 1))))
+BLINKING = ((1,), ((("cam", 0, 0), ("cam", 0, 1)),), (blinker(("and", (("key", 0), BETWEEN))),), 1)
+BLINKING_REST = ((0,), (1,), (0,), (0,))
 
 
 def walked(sections, steps):

@@ -10,8 +10,8 @@ from pistonrounds.plain import plain_circuit, plain_rest
 from pistonrounds.rounds import made_round
 from pistonrounds.rows import is_right, next_row
 from pistonrounds.runs import run
-from tests.some_rounds import rows_from, small_rounds, some_rounds, steps_of
-from tests.things import OFF, Unchanged, anything, blinker, not_deep, nowhere, paths, put, within
+from tests.some_rounds import ALONE, BLINKING, BLINKING_REST, rows_from, small_rounds, some_rounds, steps_of
+from tests.things import OFF, Unchanged, anything, not_deep, nowhere, paths, put, within
 
 # This one goes its round.
 STEPS = made_round((1, 1), steps_of("a+ b+ a- b-"))
@@ -22,16 +22,6 @@ ROWS = rows_from(CIRCUIT, STEPS, REST)
 BAD_STEPS = made_round((1, 1), steps_of("a+ a- b+ b-"))
 BAD_CIRCUIT = plain_circuit((1, 1), BAD_STEPS)
 BAD_REST = plain_rest((1, 1), BAD_STEPS)
-# A piston that goes by itself; behind a turn of key 0 no stand is settled while the piston is between its ends.
-ALONE = made_round((1,), steps_of("a+ a-"))
-BETWEEN = ("not", ("or", (("cam", 0, 0), ("cam", 0, 1))))
-BLINKING = made_circuit((
-    (1,),
-    ((("cam", 0, 0), ("cam", 0, 1)),),
-    (blinker(("and", (("key", 0), BETWEEN))),),
-    1,
-))
-BLINKING_REST = ((0,), (1,), (0,), (0,))
 
 
 class GoesByTest(unittest.TestCase):

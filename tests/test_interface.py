@@ -24,6 +24,17 @@ INTERFACE = {
         "is_row": "circuit steps thing", "is_right": "circuit steps thing", "next_row": "circuit steps row event",
     },
     "goingpapers": {"goes_by": "circuit steps stand paper", "wrong_by": "circuit steps stand paper"},
+    "walks": {"walk": "circuit steps stand"},
+    "cuts": {"is_cut": "steps thing", "group_of": "steps cut i", "greedy_cut": "steps b", "fewest_cut": "steps"},
+    "groups": {"group_circuit": "sections steps cut", "group_rest": "sections steps cut", "chain_cut": "steps"},
+    "needs": {
+        "are_apart": "sections steps i j", "is_need": "sections steps thing", "need_of": "sections steps",
+        "marks_needed": "sections steps",
+    },
+    "alikepapers": {
+        "look_alike": "one stand other beside", "alike_by": "one stand other beside paper",
+        "apart_by": "one stand other beside paper",
+    },
 }
 
 

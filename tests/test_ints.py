@@ -2,7 +2,7 @@
 
 import unittest
 
-from pistonrounds.ints import is_int, is_within
+from pistonrounds.ints import is_int, is_within, least_power
 
 
 class IntsTest(unittest.TestCase):
@@ -18,6 +18,10 @@ class IntsTest(unittest.TestCase):
         self.assertEqual([k for k in range(-3, 9) if is_within(k, 1, 4)], [1, 2, 3, 4])
         for thing in (True, None, "2", (2,), 10 ** 999, -(10 ** 999)):
             self.assertIs(is_within(thing, 0, 4), False)
+
+    def test_least_power(self):
+        told = [least_power(many) for many in range(1, 18)]
+        self.assertEqual(told, [0, 1, 2, 2, 3, 3, 3, 3, 4, 4, 4, 4, 4, 4, 4, 4, 5])
 
 
 if __name__ == "__main__":

@@ -12,7 +12,8 @@ BUILTINS = set(
 )
 METHODS = set(
     "append clear copy count endswith extend find get index insert isalnum isalpha isdigit items join keys lower "
-    "lstrip partition pop remove replace reverse setdefault split startswith strip update upper values".split()
+    "lstrip partition pop remove replace reverse setdefault split startswith strip update upper values "
+    "bit_length".split()
 )
 BARRED_WORDS = set(
     "type typing typing_extensions enum Enum IntEnum StrEnum Flag IntFlag Generic Protocol ABC ABCMeta namedtuple "
@@ -39,6 +40,14 @@ def trees():
 
 def imports_of(tree):
     return [node for node in ast.walk(tree) if isinstance(node, ast.ImportFrom)]
+
+
+def own_methods():
+    """The names of all methods that the classes of the package define."""
+    return {
+        part.name for tree in trees().values() for node in tree.body if isinstance(node, ast.ClassDef)
+        for part in node.body if isinstance(part, ast.FunctionDef)
+    }
 
 
 def bound_names(tree):
@@ -184,11 +193,13 @@ class StatementsTest(unittest.TestCase):
                         if isinstance(sign, (ast.Is, ast.IsNot)):
                             self.assertIsInstance(right, ast.Constant, (name, node.lineno))
 
-    def test_methods_of_builtin_values(self):
+    def test_methods_are_own_ones_or_of_builtin_values(self):
+        own = own_methods()
+        self.assertEqual(own & METHODS, set())
         for name, tree in trees().items():
             for node in ast.walk(tree):
                 if isinstance(node, ast.Call) and isinstance(node.func, ast.Attribute):
-                    self.assertIn(node.func.attr, METHODS, (name, node.lineno))
+                    self.assertIn(node.func.attr, METHODS | own, (name, node.lineno))
 
     def test_errors_are_own_ones_made_on_the_spot(self):
         own = {node.name for node in trees()["errors"].body if isinstance(node, ast.ClassDef)}

@@ -5,7 +5,7 @@ import re
 import unittest
 
 README = pathlib.Path(__file__).resolve().parent.parent / "README.md"
-TOLD = r"(True|False|None|-?\d+|\(.*\))"
+TOLD = r"(True|False|None|-?\d+|\"\w+\"|\(.*\))"
 
 
 def shown_rows():
@@ -26,7 +26,7 @@ class ReadmeTest(unittest.TestCase):
                 expression = code.split(" = ", 1)[-1].strip()
                 self.assertEqual(eval(expression, names), eval(told.group(1)), row)
                 compared += 1
-        self.assertGreaterEqual(compared, 12)
+        self.assertGreaterEqual(compared, 36)
 
 
 if __name__ == "__main__":
