@@ -1,8 +1,7 @@
 """Papers that two circuits are alike for ever, and papers of where they part."""
 
 from pistonrounds.answering import is_settled
-from pistonrounds.errors import Restless
-from pistonrounds.events import after, can_go, events_of, is_event
+from pistonrounds.events import can_go, events_of, is_event, stand_behind
 from pistonrounds.order import is_rising
 from pistonrounds.papers import is_paper, is_run_paper
 from pistonrounds.stands import is_stand
@@ -23,14 +22,6 @@ def are_alike(one, other, thing):
     if not is_stand(one, stand) or not is_stand(other, beside):
         return False
     return is_settled(one, stand) and is_settled(other, beside) and look_alike(one, stand, other, beside)
-
-
-def stand_behind(circuit, stand, event):
-    """The stand behind an event, or None if the event is Restless."""
-    try:
-        return after(circuit, stand, event)
-    except Restless:
-        return None
 
 
 def pair_behind(one, other, pair, event):

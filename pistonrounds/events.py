@@ -1,7 +1,7 @@
 """Events: a piston goes one place, or a key is turned."""
 
 from pistonrounds.answering import settled
-from pistonrounds.errors import NoEvent
+from pistonrounds.errors import NoEvent, Restless
 from pistonrounds.ints import is_int
 from pistonrounds.pistons import end_place
 
@@ -38,6 +38,14 @@ def after(circuit, stand, event):
     return settled(circuit, done(stand, event))
 
 
+def stand_behind(circuit, stand, event):
+    """The stand behind an event, or None if the event is Restless."""
+    try:
+        return after(circuit, stand, event)
+    except Restless:
+        return None
+
+
 def done(stand, event):
     """The stand in which just the event itself is done, nothing having answered yet."""
     word, number = event
@@ -48,6 +56,6 @@ def done(stand, event):
     return (changed(places, number, places[number] + further), valves, marks, keys)
 
 
-def changed(numbers, at, new):
-    """The tuple of numbers with a new one at one place."""
-    return numbers[:at] + (new,) + numbers[at + 1:]
+def changed(things, at, new):
+    """The tuple of things with a new one at one place."""
+    return things[:at] + (new,) + things[at + 1:]

@@ -64,6 +64,16 @@ def parts_of(line):
     return ()
 
 
+def with_parts(line, parts):
+    """The line with other lines directly in it, as many as before."""
+    word = line[0]
+    if word in ("and", "or"):
+        return (word, parts)
+    if word == "not":
+        return (word, parts[0])
+    return line
+
+
 def lines_within(lines):
     """All lines that stand in the given ones, these too, each as often as it stands."""
     found = list(lines)

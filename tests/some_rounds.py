@@ -2,10 +2,13 @@
 
 import itertools
 
+from pistonrounds.answering import settled
+from pistonrounds.circuits import made_circuit
 from pistonrounds.errors import Restless
-from pistonrounds.events import events_of
+from pistonrounds.events import after, events_of
+from pistonrounds.groups import chain_cut, group_circuit, group_rest
 from pistonrounds.rows import is_right, next_row
-from tests.things import blinker
+from tests.things import OFF, ON, blinker
 
 
 def steps_of(text):
@@ -27,6 +30,8 @@ ALONE = steps_of("a+ a-")
 BETWEEN = ("not", ("or", (("cam", 0, 0), ("cam", 0, 1))))
 BLINKING = ((1,), ((("cam", 0, 0), ("cam", 0, 1)),), (blinker(("and", (("key", 0), BETWEEN))),), 1)
 BLINKING_REST = ((0,), (1,), (0,), (0,))
+# Like BLINKING, but its memory stays.
+STILL = ((1,), BLINKING[1], ((OFF, OFF),), 1)
 
 
 def walked(sections, steps):
@@ -99,3 +104,48 @@ def rows_from(circuit, steps, stand):
                 rows[behind] = True
                 waiting.append(behind)
     return tuple(sorted(rows))
+
+
+def stand_behind(circuit, stand, event):
+    try:
+        return after(circuit, stand, event)
+    except Restless:
+        return None
+
+
+def pairs_from(one, stand, other, beside):
+    """All pairs of stands that come from the two, rising; events that are Restless in both lead to none."""
+    pairs = {(stand, beside): True}
+    waiting = [(stand, beside)]
+    while waiting:
+        first, second = waiting.pop()
+        for event in events_of(one, first):
+            pair = (stand_behind(one, first, event), stand_behind(other, second, event))
+            if pair not in pairs and pair != (None, None):
+                pairs[pair] = True
+                waiting.append(pair)
+    return tuple(sorted(pairs))
+
+
+def without_keys(thing):
+    """The lines within a nested tuple with each key's line always on."""
+    if not isinstance(thing, tuple):
+        return thing
+    if thing[:1] == ("key",):
+        return ON
+    return tuple(without_keys(part) for part in thing)
+
+
+def just_1000():
+    """A circuit with one key that nothing hangs on, a round and a stand from which 1000 right rows come."""
+    sections, steps = (1, 1, 3, 1), steps_of("a+c+d- a-b-c-d+ a+c+d- a-b+c-d+")
+    sections, pilots, memories, _ = group_circuit(sections, steps, chain_cut(steps))
+    circuit = made_circuit((sections, without_keys(pilots), without_keys(memories), 1))
+    places, valves, marks, _ = group_rest(sections, steps, chain_cut(steps))
+    return circuit, steps, settled(circuit, (places, valves, marks, (0,)))
+
+
+def just_1001():
+    """A circuit, a round and a stand from which 1001 right rows come."""
+    sections, steps = (4, 3), steps_of("a+b- a-b+ a+b- a-b+")
+    return group_circuit(sections, steps, chain_cut(steps)), steps, group_rest(sections, steps, chain_cut(steps))

@@ -5,13 +5,12 @@ import unittest
 from pistonrounds.alikepapers import alike_by, apart_by, look_alike
 from pistonrounds.answering import is_settled
 from pistonrounds.circuits import made_circuit
-from pistonrounds.errors import Restless
-from pistonrounds.events import after, events_of
+from pistonrounds.events import after
 from pistonrounds.groups import chain_cut, group_circuit, group_rest
 from pistonrounds.plain import plain_circuit, plain_rest
 from pistonrounds.runs import run
 from pistonrounds.stands import made_stand
-from tests.some_rounds import BLINKING, BLINKING_REST, steps_of
+from tests.some_rounds import BLINKING, BLINKING_REST, STILL, pairs_from, steps_of
 from tests.things import OFF, Unchanged, anything, follow, not_deep, nowhere, paths, put, within
 
 # A round without clashes: its plain circuit and its chain circuit are alike from their rests.
@@ -24,32 +23,7 @@ BAD_STEPS = steps_of("a+ a- b+ b-")
 BAD, BAD_STAND = plain_circuit((1, 1), BAD_STEPS), plain_rest((1, 1), BAD_STEPS)
 GOOD = group_circuit((1, 1), BAD_STEPS, chain_cut(BAD_STEPS))
 GOOD_STAND = group_rest((1, 1), BAD_STEPS, chain_cut(BAD_STEPS))
-# Like BLINKING, but its memory stays.
-STILL = made_circuit(((1,), BLINKING[1], ((OFF, OFF),), 1))
 TURN_0, TURN_1, GO_0, GO_1 = ("turn", 0), ("turn", 1), ("go", 0), ("go", 1)
-
-
-def stand_behind(circuit, stand, event):
-    try:
-        return after(circuit, stand, event)
-    except Restless:
-        return None
-
-
-def pairs_from(one, stand, other, beside):
-    """All pairs of stands that come from the two, rising; events that are Restless in both lead to none."""
-    pairs = {(stand, beside): True}
-    waiting = [(stand, beside)]
-    while waiting:
-        first, second = waiting.pop()
-        for event in events_of(one, first):
-            pair = (stand_behind(one, first, event), stand_behind(other, second, event))
-            if pair not in pairs and pair != (None, None):
-                pairs[pair] = True
-                waiting.append(pair)
-    return tuple(sorted(pairs))
-
-
 PAIRS = pairs_from(ONE, STAND, OTHER, BESIDE)
 
 

@@ -35,6 +35,10 @@ INTERFACE = {
         "look_alike": "one stand other beside", "alike_by": "one stand other beside paper",
         "apart_by": "one stand other beside paper",
     },
+    "pairs": {"compare": "one stand other beside"},
+    "back": {"read_back": "circuit stand"},
+    "faults": {"faults_of": "circuit", "hurt": "circuit fault"},
+    "finding": {"fault_by": "circuit stand seen paper", "faults_for": "circuit stand seen"},
 }
 
 

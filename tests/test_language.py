@@ -209,7 +209,9 @@ class StatementsTest(unittest.TestCase):
                     self.assertIsInstance(node.exc, ast.Call, (name, node.lineno))
                     self.assertIn(node.exc.func.id, own, (name, node.lineno))
                 if isinstance(node, ast.ExceptHandler):
-                    self.assertIn(node.type.id, own, (name, node.lineno))
+                    kinds = node.type.elts if isinstance(node.type, ast.Tuple) else [node.type]
+                    for kind in kinds:
+                        self.assertIn(kind.id, own, (name, node.lineno))
 
 
 if __name__ == "__main__":

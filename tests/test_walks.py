@@ -2,41 +2,17 @@
 
 import unittest
 
-from pistonrounds.answering import settled
 from pistonrounds.circuits import made_circuit
 from pistonrounds.errors import TooGreat
 from pistonrounds.goingpapers import goes_by, wrong_by
-from pistonrounds.groups import chain_cut, group_circuit, group_rest
 from pistonrounds.plain import plain_circuit, plain_rest
 from pistonrounds.rounds import made_round
 from pistonrounds.stands import made_stand
 from pistonrounds.walks import walk
-from tests.some_rounds import ALONE, BLINKING, BLINKING_REST, rows_from, small_rounds, some_rounds, steps_of
-from tests.things import OFF, ON, Refusals, Unchanged
-
-
-def without_keys(thing):
-    """The lines within a nested tuple with each key's line always on."""
-    if not isinstance(thing, tuple):
-        return thing
-    if thing[:1] == ("key",):
-        return ON
-    return tuple(without_keys(part) for part in thing)
-
-
-def just_1000():
-    """A circuit with one key that nothing hangs on, a round and a stand from which 1000 right rows come."""
-    sections, steps = (1, 1, 3, 1), steps_of("a+c+d- a-b-c-d+ a+c+d- a-b+c-d+")
-    sections, pilots, memories, _ = group_circuit(sections, steps, chain_cut(steps))
-    circuit = made_circuit((sections, without_keys(pilots), without_keys(memories), 1))
-    places, valves, marks, _ = group_rest(sections, steps, chain_cut(steps))
-    return circuit, steps, settled(circuit, (places, valves, marks, (0,)))
-
-
-def just_1001():
-    """A circuit, a round and a stand from which 1001 right rows come."""
-    sections, steps = (4, 3), steps_of("a+b- a-b+ a+b- a-b+")
-    return group_circuit(sections, steps, chain_cut(steps)), steps, group_rest(sections, steps, chain_cut(steps))
+from tests.some_rounds import (
+    ALONE, BLINKING, BLINKING_REST, STILL, just_1000, just_1001, rows_from, small_rounds, some_rounds, steps_of,
+)
+from tests.things import OFF, Refusals, Unchanged
 
 
 class WalkTest(Refusals, unittest.TestCase):
@@ -98,8 +74,7 @@ class WalkTest(Refusals, unittest.TestCase):
         self.assertEqual(sorted(set(paper[1])), [("go", 0), ("turn", 0)])
 
     def test_nothing_wrong_but_restless(self):
-        circuit = made_circuit(((1,), BLINKING[1], ((OFF, OFF),), 1))
-        self.goes(circuit, ALONE, BLINKING_REST)
+        self.goes(made_circuit(STILL), ALONE, BLINKING_REST)
 
     def test_from_a_stand_within_step_0(self):
         steps = steps_of("a+b+ a-b-")
