@@ -30,7 +30,7 @@ def is_fault(circuit, thing):
     if not isinstance(thing, tuple) or len(thing) == 0 or not isinstance(thing[0], str):
         return False
     # True is equal to 1, so it has to be kept out ahead of the look among the faults.
-    return all(is_int(part) for part in thing[1:]) and thing in faults_of(circuit)
+    return all([is_int(part) for part in thing[1:]]) and thing in faults_of(circuit)
 
 
 def hurt(circuit, fault):

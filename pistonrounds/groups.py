@@ -2,7 +2,7 @@
 
 from pistonrounds.cuts import group_of, is_cut
 from pistonrounds.errors import NoCut
-from pistonrounds.pilots import GO_ON, KEYS, begin_key, pilots_of, rest_with
+from pistonrounds.pilots import GO_ON, KEYS, begin_call, begin_key, pilots_of, rest_with
 from pistonrounds.rounds import call_of
 
 
@@ -24,8 +24,7 @@ def made_cut(steps, thing):
 def memory_of(sections, steps, cut, m):
     """The pair of lines of the memory of group m."""
     groups = len(cut)
-    called = call_of(sections, steps, cut[m]) + (GO_ON,) + begin_key(cut[m])
-    on = ("and", (("mark", (m - 1) % groups),) + called)
+    on = ("and", (("mark", (m - 1) % groups),) + begin_call(sections, steps, cut[m]))
     off = ("and", (("mark", (m + 1) % groups), ("not", on)))
     return (on, off)
 

@@ -1,7 +1,7 @@
 """What the circuits made of a round have in common: their keys, their pilots and their rest."""
 
 from pistonrounds.pistons import end_place
-from pistonrounds.rounds import between
+from pistonrounds.rounds import between, call_of
 
 KEYS = 2
 GO_ON = ("key", 0)
@@ -11,6 +11,11 @@ BEGIN = ("key", 1)
 def begin_key(i):
     """The key that lets step 0 begin, for step 0 alone."""
     return (BEGIN,) if i == 0 else ()
+
+
+def begin_call(sections, steps, i):
+    """What lets step i begin: its call and its keys."""
+    return call_of(sections, steps, i) + (GO_ON,) + begin_key(i)
 
 
 def pilots_of(sections, steps, signals):

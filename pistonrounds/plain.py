@@ -1,14 +1,11 @@
 """Plain circuits: made of a round, without memories."""
 
-from pistonrounds.pilots import GO_ON, KEYS, begin_key, pilots_of, rest_with
-from pistonrounds.rounds import call_of
+from pistonrounds.pilots import KEYS, begin_call, pilots_of, rest_with
 
 
 def plain_circuit(sections, steps):
     """The circuit in which each step begins with its call."""
-    signals = [
-        ("and", call_of(sections, steps, i) + (GO_ON,) + begin_key(i)) for i in range(len(steps))
-    ]
+    signals = [("and", begin_call(sections, steps, i)) for i in range(len(steps))]
     return (sections, pilots_of(sections, steps, signals), (), KEYS)
 
 

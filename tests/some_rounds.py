@@ -4,6 +4,7 @@ import itertools
 
 from pistonrounds.answering import settled
 from pistonrounds.circuits import made_circuit
+from pistonrounds.cuts import is_cut
 from pistonrounds.errors import Restless
 from pistonrounds.events import after, events_of
 from pistonrounds.groups import chain_cut, group_circuit, group_rest
@@ -85,6 +86,13 @@ def some_rounds():
         ((1, 1, 1, 1, 1, 1), steps_of("a+ b+ c+ d+ e+ f+ a- b- c- d- e- f-")),
         ((1, 1, 1, 1, 1, 1), steps_of("a+ a- b+ b- c+ c- d+ d- e+ e- f+ f-")),
     ]
+
+
+def cuts_of(steps):
+    """All cuts of the round, by trying all tuples."""
+    numbers = range(len(steps))
+    tuples = [thing for many in range(1, len(steps) + 1) for thing in itertools.combinations(numbers, many)]
+    return [thing for thing in tuples if is_cut(steps, thing)]
 
 
 def rows_from(circuit, steps, stand):

@@ -141,7 +141,8 @@ class NoFaultTest(Refusals, unittest.TestCase):
 
     def test_other_words(self):
         for fault in (
-            ("key", 0, 1), ("key", 0), ("", 0), ("Cam", 0, 0, 0), ("cam ", 0, 0, 0), ("go", 0), ("turn", 0), ("and", ()),
+            ("key", 0, 1), ("key", 0), ("", 0), ("Cam", 0, 0, 0), ("cam ", 0, 0, 0), ("go", 0), ("turn", 0), ("and",
+            ()),
             ("valves", 0, 0), ("marks", 0, 0), ("memory", 0, 0), (b"out", 0), (None, 0), (0, "out"), (("out",), 0),
         ):
             self.refused(fault)

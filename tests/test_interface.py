@@ -39,6 +39,16 @@ INTERFACE = {
     "back": {"read_back": "circuit stand"},
     "faults": {"faults_of": "circuit", "hurt": "circuit fault"},
     "finding": {"fault_by": "circuit stand seen paper", "faults_for": "circuit stand seen"},
+    "led": {
+        "led_sections": "sections names", "led_round": "steps names", "led_circuit": "circuit names",
+        "led_stand": "stand names", "led_paper": "paper names", "led_fault": "fault names",
+    },
+    "codes": {"code_places": "groups", "code_marks": "groups", "code_of": "groups place"},
+    "coded": {"coded_circuit": "sections steps cut", "coded_rest": "sections steps cut"},
+    "texts": {
+        "show_round": "steps", "show_circuit": "circuit", "read_round": "sections text", "read_circuit": "text",
+    },
+    "desk": {"Desk": ""},
 }
 
 
@@ -55,6 +65,11 @@ class InterfaceTest(unittest.TestCase):
             found = importlib.import_module("pistonrounds." + module)
             for name in functions:
                 self.assertEqual(getattr(found, name).__module__, "pistonrounds." + module)
+
+    def test_desks_have_say(self):
+        desk = importlib.import_module("pistonrounds.desk").Desk
+        self.assertEqual(list(inspect.signature(vars(desk)["say"]).parameters), ["self", "row"])
+        self.assertIsInstance(desk().say("sections 1"), str)
 
     def test_what_an_int_is_stands_in_ints(self):
         importlib.import_module("pistonrounds.ints")

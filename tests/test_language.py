@@ -12,7 +12,7 @@ BUILTINS = set(
 )
 METHODS = set(
     "append clear copy count endswith extend find get index insert isalnum isalpha isdigit items join keys lower "
-    "lstrip partition pop remove replace reverse setdefault split startswith strip update upper values "
+    "lstrip partition pop remove replace reverse rstrip setdefault split startswith strip update upper values "
     "bit_length".split()
 )
 BARRED_WORDS = set(
@@ -166,7 +166,16 @@ class StatementsTest(unittest.TestCase):
                 else:
                     self.assertIsInstance(node, (ast.ImportFrom, ast.FunctionDef, ast.ClassDef, ast.Assign), name)
                     if isinstance(node, ast.Assign):
-                        ast.literal_eval(node.value)
+                        self.check_plain(node.value, [part.name for part in tree.body[:at] if hasattr(part, "name")])
+
+    def check_plain(self, value, functions):
+        """A plain value, or a dict of such and of functions that are defined above."""
+        parts = value.keys + value.values if isinstance(value, ast.Dict) else [value]
+        for part in parts:
+            if isinstance(part, ast.Name):
+                self.assertIn(part.id, functions)
+            else:
+                ast.literal_eval(part)
 
     def test_statements_and_expressions(self):
         barred = (

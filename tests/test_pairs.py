@@ -1,11 +1,10 @@
 """Points 2, 3 and 29: two circuits compared."""
 
-import itertools
 import unittest
 
 from pistonrounds.alikepapers import alike_by, apart_by, look_alike
 from pistonrounds.circuits import made_circuit
-from pistonrounds.cuts import fewest_cut, is_cut
+from pistonrounds.cuts import fewest_cut
 from pistonrounds.errors import TooGreat
 from pistonrounds.events import after
 from pistonrounds.groups import chain_cut, group_circuit, group_rest
@@ -13,7 +12,7 @@ from pistonrounds.pairs import compare
 from pistonrounds.plain import plain_circuit, plain_rest
 from pistonrounds.stands import made_stand
 from tests.some_rounds import (
-    BLINKING, BLINKING_REST, STILL, just_1000, just_1001, pairs_from, small_rounds, some_rounds, steps_of,
+    BLINKING, BLINKING_REST, STILL, cuts_of, just_1000, just_1001, pairs_from, small_rounds, some_rounds, steps_of,
 )
 from tests.things import OFF, ON, Refusals, Unchanged, blinker, follow, plain
 
@@ -42,13 +41,6 @@ def with_memory(circuit, pair):
 def with_mark(stand, mark):
     places, valves, marks, keys = stand
     return (places, valves, marks + (mark,), keys)
-
-
-def cuts_of(steps):
-    """All cuts of the round, by trying all tuples."""
-    numbers = range(len(steps))
-    tuples = [thing for many in range(1, len(steps) + 1) for thing in itertools.combinations(numbers, many)]
-    return [thing for thing in tuples if is_cut(steps, thing)]
 
 
 def made(sections, steps, cut):

@@ -26,7 +26,7 @@ class ReadmeTest(unittest.TestCase):
                 expression = code.split(" = ", 1)[-1].strip()
                 self.assertEqual(eval(expression, names), eval(told.group(1)), row)
                 compared += 1
-        self.assertGreaterEqual(compared, 36)
+        self.assertGreaterEqual(compared, 55)
 
 
 if __name__ == "__main__":
